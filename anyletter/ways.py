@@ -33,6 +33,7 @@ def next_numbers(above, first, sign, wanted):
     row = [first]
     for column, letter in enumerate(wanted):
         if letter == sign:
+            # Where both end alike no way has fewer edits than one that leaves this sign.
             row.append(above[column])
         else:
             row.append(1 + min(above[column], above[column + 1], row[column]))
