@@ -8,9 +8,9 @@ MOST_NUMBERS = 10000
 MOST_COPIES = 12
 
 
-def are_words(value):
-    """Whether it is a list of 1 to 40 unlike words."""
-    if not is_list(value) or not 1 <= len(value) <= MOST_WORDS:
+def are_words(value, most):
+    """Whether it is a list of 1 to so many unlike words."""
+    if not is_list(value) or not 1 <= len(value) <= most:
         return False
     return all([is_word(word) for word in value]) and len(set(value)) == len(value)
 
@@ -19,7 +19,7 @@ class Book:
     """A list of unlike words; the number of a word is its index."""
 
     def __init__(self, words):
-        if not are_words(words):
+        if not are_words(words, MOST_WORDS):
             raise BadBook("words")
         self.words = tuple(words)
 

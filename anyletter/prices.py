@@ -99,6 +99,11 @@ def cheapest(words):
     return best
 
 
+def cost_of_words(words):
+    """The price of the book of these words, None for one word."""
+    return None if len(words) == 1 else cheapest(words)[0]
+
+
 def made_words(book, many):
     """All triples (u, v, w) that are made by many edits, an ascending tuple."""
     if not isinstance(book, Book):
@@ -115,9 +120,7 @@ def price(book):
     """The least number of edits by which some triple is made; None for a book of one word."""
     if not isinstance(book, Book):
         raise BadBook("book")
-    if len(book.words) == 1:
-        return None
-    return cheapest(book.words)[0]
+    return cost_of_words(book.words)
 
 
 def cost_of_stretch(text, begin, end, word):

@@ -100,3 +100,46 @@ def slow_price(words):
     numbers = range(len(words))
     triples = [(u, v, w) for u in numbers for v in numbers for w in numbers if w not in (u, v)]
     return min((slow_cost(words[u], words[v], words[w]) for u, v, w in triples), default=None)
+
+
+def slow_read(words, text):
+    """The numbers that are read of a text."""
+    return tuple(words.index(item) for item in text.split(" ") if item in words)
+
+
+def slow_spelled(words, row, copies):
+    """The text of a row, word by word; copies has a number for each word."""
+    return " ".join(words[number] for number in row for _ in range(copies[number]))
+
+
+def slow_thickly(row, other):
+    """Whether the other row can be cut into pieces as [8] tells, all cuts gone through."""
+
+    @functools.lru_cache(maxsize=None)
+    def can_be_cut(pieces, begin):
+        if pieces == len(row):
+            return begin == len(other)
+        for end in range(begin + 1, len(other) + 1):
+            if other[end - 1] != row[pieces]:
+                return False
+            if can_be_cut(pieces + 1, end):
+                return True
+        return False
+
+    return can_be_cut(0, 0)
+
+
+def texts_left(text, signs, many):
+    """For each text that at most so many edits with these signs leave, edits that leave it."""
+    found = {text: ()}
+    newest = [text]
+    for _ in range(many):
+        reached = []
+        for known in newest:
+            for edit in all_edits(known, signs):
+                left = slow_left(known, edit)
+                if left not in found:
+                    found[left] = found[known] + (edit,)
+                    reached.append(left)
+        newest = reached
+    return found

@@ -4,6 +4,8 @@ import importlib
 import inspect
 import unittest
 
+from anyletter.papers import Denial, Paper, fixed
+
 FUNCTIONS = {
     "checks": {
         "is_integer": ["value"], "is_within": ["value", "least", "most"], "are_integers": ["value"],
@@ -19,6 +21,14 @@ FUNCTIONS = {
     "books": {"spelled": ["book", "row", "copies"], "read": ["book", "text"]},
     "prices": {"made_words": ["book", "many"], "price": ["book"], "price_of": ["book"]},
     "check_prices": {"shows_price": ["book", "value"]},
+    "makers": {"grown": ["words", "least"]},
+    "thick": {"reads_thickly": ["row", "other"], "judged_book": ["book", "copies", "many"]},
+    "check_thick": {"shows_book": ["book", "copies", "many", "value"]},
+    "tears": {
+        "torn": ["text", "at", "signs", "other"], "touched_most": ["length", "signs"],
+        "copies_for_tear": ["book", "signs"],
+    },
+    "settled": {"settles": ["machine", "number"]},
 }
 # For each class the methods that it defines itself, and the parameters with which it is called.
 CLASSES = {
@@ -29,7 +39,15 @@ CLASSES = {
     "ways": {"Ways": (["__init__"], ["edits"])},
     "books": {"Book": (["__init__", "__eq__", "number"], ["words"])},
     "prices": {"Strange": (["__init__"], ["row", "edits", "made"]), "Alone": (["__init__"], [])},
+    "thick": {"Thick": (["__init__"], ["price"]), "Broken": (["__init__"], ["row", "edits"])},
+    "machines": {"Machine": (["__init__", "__eq__", "done", "done_text"], ["book", "deeds"])},
 }
+METHODS = {
+    "books": {"Book.number": ["word"]},
+    "machines": {"Machine.done": ["row", "start"], "Machine.done_text": ["text", "start"]},
+}
+# The papers that say no; all others say yes.
+DENIALS = ["Alone", "Broken"]
 
 
 class Interface(unittest.TestCase):
@@ -52,5 +70,25 @@ class Interface(unittest.TestCase):
                     self.assertIn(method, vars(made))
 
     def test_methods(self):
-        books = importlib.import_module("anyletter.books")
-        self.assertEqual(list(inspect.signature(books.Book.number).parameters), ["self", "word"])
+        for module, methods in METHODS.items():
+            for name, parameters in methods.items():
+                made, method = name.split(".")
+                found = vars(getattr(importlib.import_module("anyletter." + module), made))[method]
+                self.assertEqual(list(inspect.signature(found).parameters), ["self"] + parameters)
+
+    def test_papers(self):
+        for module, classes in CLASSES.items():
+            for name, (_, parameters) in classes.items():
+                made = getattr(importlib.import_module("anyletter." + module), name)
+                if not issubclass(made, Paper) or made in (Paper, Denial):
+                    continue
+                self.assertIs(issubclass(made, Denial), name in DENIALS)
+                parts = [[place, [place]] for place in range(len(parameters))]
+                told, other = made(*parts), made(**dict(zip(parameters, parts)))
+                self.assertEqual((told.word, told.parts), (name.lower(), fixed(parts)))
+                self.assertEqual([getattr(told, parameter) for parameter in parameters], list(fixed(parts)))
+                self.assertIs(told == other, True)
+                self.assertIs(bool(told), name not in DENIALS)
+                self.assertIs(told == Paper(name.lower(), *parts), False)
+                for place in range(len(parts)):
+                    self.assertIs(told == made(*[*parts[:place], None, *parts[place + 1:]]), False)
