@@ -25,7 +25,7 @@ class ShowsBook(unittest.TestCase):
 
     def test_thick_only_with_the_price_and_if_it_is_so(self):
         for book, copies, many, cost in (
-            (PAIR, 3, 1, 2), (Book(["aaa", "bbb"]), 5, 2, 3), (Book(["one"]), 9, 4, None), (Book(PLAIN), 7, 3, 4),
+            (PAIR, 3, 1, 2), (Book(["aaa", "bbb"]), 5, 2, 3), (Book(["one"]), 9, 4, None), (Book(["aaaa", "bbbb"]), 7, 3, 4),
         ):
             for told in (None, 0, 1, 2, 3, 4, 5, -1, True, False, 2.0, 4.0, "2", "", [], [2], [None], (4,), 10**45):
                 wanted = told == cost and not isinstance(told, float)

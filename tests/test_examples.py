@@ -9,7 +9,7 @@ from anyletter.errors import LetterError
 
 EXAMPLES = pathlib.Path(__file__).with_name("examples.txt")
 MODULES = """errors checks papers texts edits ways check_ways books prices check_prices makers thick check_thick tears
-machines settled""".split()
+machines settled copies lets check_copies plain stands""".split()
 
 
 def names_of_package():

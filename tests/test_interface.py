@@ -29,6 +29,14 @@ FUNCTIONS = {
         "copies_for_tear": ["book", "signs"],
     },
     "settled": {"settles": ["machine", "number"]},
+    "copies": {"copies_for": ["machine", "many"], "judged_text": ["machine", "copies", "many"]},
+    "lets": {"judged_machine": ["machine", "many"]},
+    "check_copies": {
+        "shows_copies": ["machine", "many", "value"], "shows_text": ["machine", "copies", "many", "value"],
+        "shows_machine": ["machine", "many", "value"],
+    },
+    "plain": {"plain_words": [], "plain_book": []},
+    "stands": {"begun": [], "done_word": ["stand", "number", "heard"], "passed": ["stand", "row", "heard"]},
 }
 # For each class the methods that it defines itself, and the parameters with which it is called.
 CLASSES = {
@@ -41,13 +49,25 @@ CLASSES = {
     "prices": {"Strange": (["__init__"], ["row", "edits", "made"]), "Alone": (["__init__"], [])},
     "thick": {"Thick": (["__init__"], ["price"]), "Broken": (["__init__"], ["row", "edits"])},
     "machines": {"Machine": (["__init__", "__eq__", "done", "done_text"], ["book", "deeds"])},
+    "copies": {
+        "Copies": (["__init__"], ["numbers"]), "Stands": (["__init__"], []),
+        "GoesRound": (["__init__"], ["number", "start"]), "Parts": (["__init__"], ["row", "start", "edits"]),
+    },
+    "lets": {"Lets": (["__init__"], []), "Differs": (["__init__"], ["row", "start", "edits"])},
+    "stands": {
+        "Stand": (
+            ["__init__", "__eq__", "cell"],
+            "block room tick flag test mode first second cells heard said is_done".split(),
+        ),
+    },
 }
 METHODS = {
     "books": {"Book.number": ["word"]},
     "machines": {"Machine.done": ["row", "start"], "Machine.done_text": ["text", "start"]},
+    "stands": {"Stand.cell": ["place"]},
 }
 # The papers that say no; all others say yes.
-DENIALS = ["Alone", "Broken"]
+DENIALS = ["Alone", "Broken", "GoesRound", "Parts", "Differs"]
 
 
 class Interface(unittest.TestCase):

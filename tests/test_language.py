@@ -13,7 +13,7 @@ PACKAGE = pathlib.Path(__file__).resolve().parent.parent / "anyletter"
 FILES = sorted(path for path in PACKAGE.iterdir() if path.name != "__pycache__")
 
 NODES = """Module Expr Constant ImportFrom alias FunctionDef ClassDef arguments arg Assign AugAssign If While For
-Return Raise Break Continue Pass Call Name Load Store Attribute Subscript Slice List Tuple Dict ListComp DictComp
+Return Raise Break Continue Pass Delete Call Name Load Store Del Attribute Subscript Slice List Tuple Dict ListComp DictComp
 comprehension BoolOp And Or UnaryOp Not USub BinOp Add Sub Mult FloorDiv Mod Compare Eq NotEq Lt LtE Gt GtE Is IsNot
 In NotIn IfExp keyword Starred JoinedStr FormattedValue""".split()
 BUILTINS = """len range enumerate zip min max sum abs sorted reversed int str bool list tuple dict set isinstance ord
@@ -35,6 +35,13 @@ def trees():
 
 def functions_of(tree):
     return [node for node in ast.walk(tree) if isinstance(node, ast.FunctionDef)]
+
+
+def module_names(tree):
+    """The names that are bound outside of all functions and classes."""
+    names = [node.name for node in tree.body if isinstance(node, (ast.FunctionDef, ast.ClassDef))]
+    names += [alias.name for node in tree.body if isinstance(node, ast.ImportFrom) for alias in node.names]
+    return names + [node.targets[0].id for node in tree.body if isinstance(node, ast.Assign)]
 
 
 def without_docstrings(tree):
@@ -83,7 +90,12 @@ class Language(unittest.TestCase):
                 if isinstance(node, ast.Expr):
                     self.assertTrue(place == 0 and isinstance(node.value.value, str))
                 elif isinstance(node, ast.Assign):
-                    self.assertIsInstance(ast.literal_eval(node.value), (int, str, tuple, list, dict))
+                    if isinstance(node.value, ast.Dict) and isinstance(node.value.values[0], ast.Name):
+                        # A table of functions that are defined above.
+                        self.assertLessEqual({value.id for value in node.value.values}, set(bound), name)
+                        ast.literal_eval(ast.Tuple(node.value.keys, ast.Load()))
+                    else:
+                        self.assertIsInstance(ast.literal_eval(node.value), (int, str, tuple, list, dict))
                     bound += [target.id for target in node.targets]
                 elif isinstance(node, ast.ImportFrom):
                     bound += [alias.name for alias in node.names]
@@ -181,7 +193,7 @@ class Language(unittest.TestCase):
             for node in ast.walk(tree):
                 if isinstance(node, ast.Attribute):
                     if isinstance(node.ctx, ast.Store):
-                        self.assertEqual(node.value.id, "self")
+                        self.assertNotIn(node.value.id, module_names(tree))
                         assigned.add(node.attr)
                     elif node.attr not in METHODS:
                         read.setdefault(node.attr, (name, node.lineno))
