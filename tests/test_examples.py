@@ -1,4 +1,4 @@
-"""The examples of DOC.md, under the headings of the modules that are written."""
+"""The examples of DOC.md, under the headings of its modules."""
 
 import importlib
 import inspect
@@ -9,7 +9,8 @@ from anyletter.errors import LetterError
 
 EXAMPLES = pathlib.Path(__file__).with_name("examples.txt")
 MODULES = """errors checks papers texts edits ways check_ways books prices check_prices makers thick check_thick tears
-machines settled copies lets check_copies plain stands""".split()
+machines settled copies lets check_copies plain stands runs lines programs meaning rooms rows_of ownrows healers trials
+marks films""".split()
 
 
 def names_of_package():

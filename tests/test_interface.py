@@ -37,6 +37,22 @@ FUNCTIONS = {
     },
     "plain": {"plain_words": [], "plain_book": []},
     "stands": {"begun": [], "done_word": ["stand", "number", "heard"], "passed": ["stand", "row", "heard"]},
+    "runs": {"run_row": ["row", "heard", "passes"], "run_text": ["text", "heard", "passes"], "blocks_of": ["row"]},
+    "lines": {"is_name": ["value"], "is_plain": ["value"], "parts_of": ["line"], "line_of": ["parts"]},
+    "meaning": {
+        "played": ["program", "heard", "steps", "own"], "traced": ["program", "heard", "steps", "own"],
+        "left_by": ["program", "heard", "steps", "own"],
+    },
+    "rooms": {"rooms": ["program"]},
+    "rows_of": {"row_of": ["program"], "text_of": ["program", "many"]},
+    "ownrows": {"own_row": ["program"]},
+    "healers": {"asker": [], "healer": [], "healed": ["text", "many", "passes"]},
+    "trials": {
+        "trial": ["program", "many", "edits", "heard", "passes"], "breaking": ["program", "heard", "passes"],
+        "parted_at": ["text", "other", "heard", "passes"],
+    },
+    "marks": {"marks_of": ["text", "edits"]},
+    "films": {"film_of": ["text", "heard", "passes"]},
 }
 # For each class the methods that it defines itself, and the parameters with which it is called.
 CLASSES = {
@@ -60,14 +76,23 @@ CLASSES = {
             "block room tick flag test mode first second cells heard said is_done".split(),
         ),
     },
+    "runs": {"Run": (["__init__"], ["outcome", "said", "passes"])},
+    "programs": {"Program": (["__init__", "__eq__", "parts_at"], ["lines"])},
+    "meaning": {"Played": (["__init__"], ["outcome", "said", "steps"])},
+    "trials": {"Trial": (["__init__"], ["sound", "hurt"])},
 }
 METHODS = {
     "books": {"Book.number": ["word"]},
     "machines": {"Machine.done": ["row", "start"], "Machine.done_text": ["text", "start"]},
     "stands": {"Stand.cell": ["place"]},
+    "programs": {"Program.parts_at": ["line"]},
 }
 # The papers that say no; all others say yes.
 DENIALS = ["Alone", "Broken", "GoesRound", "Parts", "Differs"]
+
+
+# All papers that the document names.
+PAPERS = """Paper Denial Ways Strange Alone Thick Broken Copies Stands GoesRound Parts Lets Differs Run Played Trial""".split()
 
 
 class Interface(unittest.TestCase):
@@ -95,6 +120,9 @@ class Interface(unittest.TestCase):
                 made, method = name.split(".")
                 found = vars(getattr(importlib.import_module("anyletter." + module), made))[method]
                 self.assertEqual(list(inspect.signature(found).parameters), ["self"] + parameters)
+
+    def test_all_papers_are_there(self):
+        self.assertEqual([name for classes in CLASSES.values() for name in classes if name not in ("Book", "Machine", "Stand", "Program")], PAPERS)
 
     def test_papers(self):
         for module, classes in CLASSES.items():

@@ -69,7 +69,7 @@ class Language(unittest.TestCase):
                 self.assertLessEqual(function.end_lineno - function.lineno + 1, 40, (name, function.name))
                 self.assertEqual(function.decorator_list, [])
                 for default in function.args.defaults + function.args.kw_defaults:
-                    self.assertIsInstance(default, ast.Constant)
+                    self.assertIsInstance(ast.literal_eval(default), (int, str, bool, tuple, type(None)))
 
     def test_only_known_syntax(self):
         for name, tree in trees():
